@@ -2,11 +2,9 @@ package tests
 
 import (
 	"fmt"
-	"maps"
 	"math"
 	"slices"
 	"strings"
-	"sync"
 	"testing"
 
 	"loop.example/g00504/impl"
@@ -776,32 +774,19 @@ func TestMacArgumentsUnchanged(t *testing.T) {
 func TestMacKeepsNothing(t *testing.T) {
 	shared := tableOf(rowsOf(mostRows)...)
 	twice := tableOf(withInput(shared.Rows, 63, "row 0")...)
-	var group sync.WaitGroup
-	var lock sync.Mutex
-	found := map[string]int{}
-	for worker := range 8 {
-		group.Go(func() {
-			faults := map[string]int{}
-			for i := range 300 {
-				at := (i + 37*worker) % mostRows
-				mine := impl.TableMac(drawnRows(i + worker))
-				if !impl.MacOk(shared) || impl.MacOk(twice) || impl.MacOk(mine) != validMac(mine) {
-					faults["MacOk"]++
-				}
-				if impl.MacOf(shared, shared.Rows[at].Input) != shared.Rows[at].Value || impl.MacOf(twice, "row 0") != twice.Rows[0].Value || impl.MacOf(mine, "\x00") != tagOf(mine, "\x00") {
-					faults["MacOf"]++
-				}
-				if !impl.SameMac(shared, impl.TableMac(shared.Rows)) || impl.SameMac(shared, twice) || !impl.SameMac(impl.KeyMac(1, 2), impl.Mac{K: 1, L: 2}) {
-					faults["SameMac"]++
-				}
+	checkAtOnce(t, func(worker int, faults map[string]int) {
+		for i := range 300 {
+			at := (i + 37*worker) % mostRows
+			mine := impl.TableMac(drawnRows(i + worker))
+			if !impl.MacOk(shared) || impl.MacOk(twice) || impl.MacOk(mine) != validMac(mine) {
+				faults["MacOk"]++
 			}
-			lock.Lock()
-			defer lock.Unlock()
-			maps.Copy(found, faults)
-		})
-	}
-	group.Wait()
-	for name, count := range found {
-		t.Errorf("%s was wrong %d times", name, count)
-	}
+			if impl.MacOf(shared, shared.Rows[at].Input) != shared.Rows[at].Value || impl.MacOf(twice, "row 0") != twice.Rows[0].Value || impl.MacOf(mine, "\x00") != tagOf(mine, "\x00") {
+				faults["MacOf"]++
+			}
+			if !impl.SameMac(shared, impl.TableMac(shared.Rows)) || impl.SameMac(shared, twice) || !impl.SameMac(impl.KeyMac(1, 2), impl.Mac{K: 1, L: 2}) {
+				faults["SameMac"]++
+			}
+		}
+	})
 }

@@ -3,11 +3,9 @@ package tests
 import (
 	"encoding/binary"
 	"fmt"
-	"maps"
 	"math"
 	"slices"
 	"strings"
-	"sync"
 	"testing"
 
 	"loop.example/g00504/impl"
@@ -689,40 +687,25 @@ func TestTupleArgumentsUnchanged(t *testing.T) {
 
 // No call depends on other calls, before it or at the same time.
 func TestTupleKeepsNothing(t *testing.T) {
-	var group sync.WaitGroup
-	var lock sync.Mutex
-	found := map[string]int{}
-	for worker := range 8 {
-		group.Go(func() {
-			faults := map[string]int{}
-			for n := range 2000 {
-				seed := n + 31*worker
-				a, g := someArgs(seed), impl.Segment{From: seed, To: -seed}
-				if impl.TupleOk(a.tuple) != validTuple(a.tuple) || impl.TupleOk(tupleWith(seed, seed, -1)) {
-					faults["TupleOk"]++
-				}
-				if impl.TupleOf(n, g) != tupleWith(n, seed, -seed) {
-					faults["TupleOf"]++
-				}
-				if impl.MssOf(seed%8) != mssSizes[seed%8] || impl.MssOf(8+seed) != 0 {
-					faults["MssOf"]++
-				}
-				if impl.MssIndex(seed) != indexOf(seed) || impl.MssIndex(mssSizes[seed%8]) != seed%8 {
-					faults["MssIndex"]++
-				}
-				if impl.MacInput(a.tuple, a.seq, a.epoch, 8) != "" || inputOf(a) != fullInput(a.tuple.Ip, a.tuple.Port, a.tuple.My, a.seq, a.epoch, a.i) {
-					faults["MacInput"]++
-				}
+	checkAtOnce(t, func(worker int, faults map[string]int) {
+		for n := range 2000 {
+			seed := n + 31*worker
+			a, g := someArgs(seed), impl.Segment{From: seed, To: -seed}
+			if impl.TupleOk(a.tuple) != validTuple(a.tuple) || impl.TupleOk(tupleWith(seed, seed, -1)) {
+				faults["TupleOk"]++
 			}
-			lock.Lock()
-			defer lock.Unlock()
-			for name, count := range faults {
-				found[name] += count
+			if impl.TupleOf(n, g) != tupleWith(n, seed, -seed) {
+				faults["TupleOf"]++
 			}
-		})
-	}
-	group.Wait()
-	for _, name := range slices.Sorted(maps.Keys(found)) {
-		t.Errorf("%s was wrong %d times", name, found[name])
-	}
+			if impl.MssOf(seed%8) != mssSizes[seed%8] || impl.MssOf(8+seed) != 0 {
+				faults["MssOf"]++
+			}
+			if impl.MssIndex(seed) != indexOf(seed) || impl.MssIndex(mssSizes[seed%8]) != seed%8 {
+				faults["MssIndex"]++
+			}
+			if impl.MacInput(a.tuple, a.seq, a.epoch, 8) != "" || inputOf(a) != fullInput(a.tuple.Ip, a.tuple.Port, a.tuple.My, a.seq, a.epoch, a.i) {
+				faults["MacInput"]++
+			}
+		}
+	})
 }

@@ -2,10 +2,8 @@ package tests
 
 import (
 	"fmt"
-	"maps"
 	"math"
 	"slices"
-	"sync"
 	"testing"
 
 	"loop.example/g00504/impl"
@@ -1355,40 +1353,25 @@ func TestCookiesRepeat(t *testing.T) {
 // No call depends on other calls, before it or at the same time.
 func TestCookieKeepsNothing(t *testing.T) {
 	shared := impl.Keys{Epoch: 33, Now: tableFrom(1, everyIndex(peerArgs(33, 0))...), Before: tableFrom(9, everyIndex(peerArgs(32, 0))...), Two: true}
-	var group sync.WaitGroup
-	var lock sync.Mutex
-	found := map[string]int{}
-	for worker := range 8 {
-		group.Go(func() {
-			faults := map[string]int{}
-			for n := range 500 {
-				a, i := someArgs(n+31*worker), (n+worker)%8
-				mine := impl.Keys{Epoch: a.epoch, Now: impl.KeyMac(someWord(n), uint64(worker))}
-				if epoch, index, ok := impl.CheckCookie(shared, cookiePeer, cookieSeq, 1*epochStep+i*indexStep+1+i); epoch != 33 || index != i || !ok {
-					faults["CheckCookie of the current epoch"]++
-				}
-				if epoch, index, ok := impl.CheckCookie(shared, cookiePeer, cookieSeq, i*indexStep+9+i); epoch != 32 || index != i || !ok {
-					faults["CheckCookie of the epoch before"]++
-				}
-				if epoch, index, ok := impl.CheckCookie(mine, a.tuple, a.seq, cookieOf(mine.Now, a)); epoch != a.epoch || index != a.i || !ok {
-					faults["CheckCookie"]++
-				}
-				if m, ok := impl.SecretOf(shared, 32); !ok || !equalMacs(m, shared.Before) || impl.KeysOk(impl.Keys{Epoch: -n - 1}) {
-					faults["SecretOf"]++
-				}
-				if k := impl.Rotated(shared, mine.Now); !impl.SameKeys(k, impl.Keys{Epoch: 34, Now: mine.Now, Before: shared.Now, Two: true}) {
-					faults["Rotated"]++
-				}
+	checkAtOnce(t, func(worker int, faults map[string]int) {
+		for n := range 500 {
+			a, i := someArgs(n+31*worker), (n+worker)%8
+			mine := impl.Keys{Epoch: a.epoch, Now: impl.KeyMac(someWord(n), uint64(worker))}
+			if epoch, index, ok := impl.CheckCookie(shared, cookiePeer, cookieSeq, 1*epochStep+i*indexStep+1+i); epoch != 33 || index != i || !ok {
+				faults["CheckCookie of the current epoch"]++
 			}
-			lock.Lock()
-			defer lock.Unlock()
-			for name, count := range faults {
-				found[name] += count
+			if epoch, index, ok := impl.CheckCookie(shared, cookiePeer, cookieSeq, i*indexStep+9+i); epoch != 32 || index != i || !ok {
+				faults["CheckCookie of the epoch before"]++
 			}
-		})
-	}
-	group.Wait()
-	for _, name := range slices.Sorted(maps.Keys(found)) {
-		t.Errorf("%s was wrong %d times", name, found[name])
-	}
+			if epoch, index, ok := impl.CheckCookie(mine, a.tuple, a.seq, cookieOf(mine.Now, a)); epoch != a.epoch || index != a.i || !ok {
+				faults["CheckCookie"]++
+			}
+			if m, ok := impl.SecretOf(shared, 32); !ok || !equalMacs(m, shared.Before) || impl.KeysOk(impl.Keys{Epoch: -n - 1}) {
+				faults["SecretOf"]++
+			}
+			if k := impl.Rotated(shared, mine.Now); !impl.SameKeys(k, impl.Keys{Epoch: 34, Now: mine.Now, Before: shared.Now, Two: true}) {
+				faults["Rotated"]++
+			}
+		}
+	})
 }
