@@ -119,10 +119,7 @@ func copiedMac(m impl.Mac) impl.Mac {
 // guarded returns a copy of rows with unused capacity, and a function that
 // reports whether all memory around it is as it was.
 func guarded(rows []impl.MacRow) ([]impl.MacRow, func() bool) {
-	guard := []impl.MacRow{rowOf("guard", 77), rowOf("", -7), rowOf("row 0", 1<<24)}
-	whole := slices.Concat(guard, rows, guard)
-	before := slices.Clone(whole)
-	return whole[len(guard) : len(guard)+len(rows)], func() bool { return slices.Equal(whole, before) }
+	return guardedBy(rows, []impl.MacRow{rowOf("guard", 77), rowOf("", -7), rowOf("row 0", 1<<24)})
 }
 
 // macShown returns m for a message, with the beginning of its rows.
